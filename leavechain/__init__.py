@@ -1,0 +1,1 @@
+"""Leavechain: programs with leaves that end."""

@@ -39,7 +39,7 @@ def _read_rows(text):
 
 
 def _enters(word, within):
-    """Whether a row may stand within these open ones, which are then those behind it."""
+    """Whether a row may stand within these whens and times, then changed to those behind it."""
     if word in ("when", "times"):
         within.append(word)
         return len(within) <= DEEPEST

@@ -1,12 +1,12 @@
 """Rooms and leaves, and the texts of them."""
 
 from leavechain.errors import NoText
-from leavechain.words import MOST_FIGURES
-from leavechain.words import is_deeds
 from leavechain.words import is_between
-from leavechain.words import is_moment
+from leavechain.words import is_deeds
 from leavechain.words import is_name
+from leavechain.words import is_span
 from leavechain.words import is_whole
+from leavechain.words import is_worth
 from leavechain.words import read_deeds
 from leavechain.words import read_figures
 from leavechain.words import read_whole
@@ -17,6 +17,7 @@ MOST_ROOMS = 4
 MOST_PASSES = 6
 
 # Where the parts of a leave stand in it.
+NUMBER = 0
 ROOM = 1
 DEEDS = 2
 GIVER = 3
@@ -43,7 +44,7 @@ def _is_held(thing):
     if not isinstance(thing, tuple) or len(thing) != 2:
         return False
     owner, worth = thing
-    return is_name(owner) and is_between(worth, -MOST_FIGURES, MOST_FIGURES)
+    return is_name(owner) and is_worth(worth)
 
 
 def is_leave(thing):
@@ -57,9 +58,7 @@ def is_leave(thing):
         return False
     if not is_name(giver) or not is_name(holder) or giver == holder:
         return False
-    if not is_moment(since) or not is_moment(until) or since >= until:
-        return False
-    if not is_between(passes, 0, MOST_PASSES):
+    if not is_span(since, until) or not is_between(passes, 0, MOST_PASSES):
         return False
     return under is None or is_between(under, 0, number - 1)
 

@@ -30,7 +30,7 @@ class Ledger:
     def __init__(self, rooms):
         if not is_rooms(rooms):
             raise NoHall("a ledger is made with rooms")
-        self._owners = {name: rooms[name][0] for name in rooms}
+        self._rooms = {name: rooms[name] for name in rooms}
         self._moment = 0
         self._leaves = []
         self._taken = {}
@@ -39,6 +39,10 @@ class Ledger:
         """Move the ledger on to a later moment, or the same; else NoMoment."""
         if not is_moment(moment) or moment < self._moment:
             raise NoMoment("a ledger is moved on to a later moment, or the same")
+        self.reach(moment)
+
+    def reach(self, moment):
+        """Come to a later moment, or the same; halls may go beyond the last one, too."""
         self._moment = moment
 
     def moment(self):
@@ -49,7 +53,16 @@ class Ledger:
         """Whether the leave of that number stands now, or NoLeave."""
         if not self._is_given(number):
             raise NoLeave("no leave has that number")
-        return all(self._cause(link) is None for link in self._links(number))
+        return all(self._cause(link) is None for link in self.links(number))
+
+    def links(self, number):
+        """The numbers of a given leave's chain, standing or not, from the owner's on."""
+        links = [number]
+        under = self._leaves[number][UNDER]
+        while under is not None:
+            links.append(under)
+            under = self._leaves[under][UNDER]
+        return tuple(links[::-1])
 
     def chain(self, actor, deed, room):
         """The numbers of the leaves by which the actor is let, or None; NoRoom."""
@@ -57,7 +70,7 @@ class Ledger:
             return ()
         for number in self._held(actor, deed, room):
             if self.stands(number):
-                return tuple(self._links(number))
+                return self.links(number)
         return None
 
     def why_not(self, actor, deed, room):
@@ -82,9 +95,24 @@ class Ledger:
         """Take the leave of that number back; NoLeave or NotLet."""
         if not self._is_given(number) or self._cause(number) in (TAKEN, OVER):
             raise NoLeave("no leave of that number can still be taken back")
-        if not self._may_take(actor, number):
+        if self.right_to_take(actor, number) is None:
             raise NotLet("this actor may not take the leave back")
         self._taken[number] = self._moment
+
+    def right_to_take(self, actor, number):
+        """By what an actor may take a given leave back, or None.
+
+        That is "giver", "owner" or the number of the nearest leave above that it holds.
+        """
+        leave = self._leaves[number]
+        if actor == leave[GIVER]:
+            return "giver"
+        if actor == self._owner(leave[ROOM]):
+            return "owner"
+        for link in reversed(self.links(number)[:-1]):
+            if actor == self._leaves[link][HOLDER]:
+                return link
+        return None
 
     def leaves(self):
         """All leaves that were given, by numbers."""
@@ -94,11 +122,19 @@ class Ledger:
         """The moments at which leaves were taken back, by their numbers."""
         return dict(self._taken)
 
+    def twin(self):
+        """Another ledger just as this one is now."""
+        other = Ledger(self._rooms)
+        other._moment = self._moment
+        other._leaves = list(self._leaves)
+        other._taken = dict(self._taken)
+        return other
+
     def _owner(self, room):
         """The owner of a room, or NoRoom."""
-        if not isinstance(room, str) or room not in self._owners:
+        if not isinstance(room, str) or room not in self._rooms:
             raise NoRoom("there is no such room")
-        return self._owners[room]
+        return self._rooms[room][0]
 
     def _is_given(self, number):
         """Whether a leave has that number."""
@@ -111,15 +147,6 @@ class Ledger:
             for number, leave in enumerate(self._leaves)
             if leave[HOLDER] == actor and leave[ROOM] == room and deed in leave[DEEDS]
         ]
-
-    def _links(self, number):
-        """The numbers of a leave's chain, from the one that the owner gave on."""
-        links = []
-        link = number
-        while link is not None:
-            links.append(link)
-            link = self._leaves[link][UNDER]
-        return links[::-1]
 
     def _cause(self, number):
         """Why a leave does not stand by itself, whatever is above it, or None."""
@@ -134,7 +161,7 @@ class Ledger:
 
     def _fall(self, number):
         """A leave that does not stand, with the first link that does not, and its cause."""
-        for link in self._links(number):
+        for link in self.links(number):
             cause = self._cause(link)
             if cause is not None:
                 return (number, link, cause)
@@ -142,7 +169,7 @@ class Ledger:
 
     def _is_lost(self, number):
         """Whether a leave stands no more and will not again."""
-        return any(self._cause(link) in (TAKEN, OVER) for link in self._links(number))
+        return any(self._cause(link) in (TAKEN, OVER) for link in self.links(number))
 
     def _under(self, leave):
         """The number of the leave under which a leave is given, or NotLet."""
@@ -150,11 +177,3 @@ class Ledger:
             if lies_within(leave, other) and not self._is_lost(number):
                 return number
         raise NotLet("the giver has no leave within which this one lies")
-
-    def _may_take(self, actor, number):
-        """Whether the actor may take a leave back."""
-        leave = self._leaves[number]
-        above = self._links(number)[:-1]
-        takers = [leave[GIVER], self._owners[leave[ROOM]]]
-        takers.extend([self._leaves[link][HOLDER] for link in above])
-        return actor in takers

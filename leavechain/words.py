@@ -3,6 +3,7 @@
 LAST_MOMENT = 1000000
 MOST_FIGURES = 999999999
 LONGEST_NAME = 8
+BOTH_DEEDS = ("look", "set")
 ALL_DEEDS = (("look",), ("set",), ("look", "set"))
 
 
@@ -19,6 +20,16 @@ def is_between(thing, least, most):
 def is_moment(thing):
     """Whether anything is a moment."""
     return is_between(thing, 0, LAST_MOMENT)
+
+
+def is_span(since, until):
+    """Whether anything and anything are the moments from which and until which something is."""
+    return is_moment(since) and is_moment(until) and since < until
+
+
+def is_worth(thing):
+    """Whether anything is a whole number of at most nine figures."""
+    return is_between(thing, -MOST_FIGURES, MOST_FIGURES)
 
 
 def is_name(thing):

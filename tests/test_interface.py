@@ -1,4 +1,4 @@
-"""The names, arguments and places of the document's interface, as far as it has landed."""
+"""The names, arguments and places of the document's interface."""
 
 import importlib
 import inspect
@@ -20,18 +20,47 @@ FUNCTIONS = {
         "is_steps": "(thing)",
         "most_steps": "(steps)",
     },
+    "leavechain.logs": {
+        "bare": "(log)",
+        "told_log": "(rooms, bare_log, moment)",
+        "log_holds": "(rooms, log, moment)",
+    },
+    "leavechain.weavings": {
+        "weavings": "(rooms, programs)",
+        "spans": "(rooms, programs, room)",
+    },
+    "leavechain.plans": {
+        "is_trust": "(thing)",
+        "is_plan": "(trust, thing)",
+        "least_plan": "(trust)",
+        "tree_holds": "(trust, most, tree)",
+        "plan_leaves": "(trust, plan, room)",
+    },
 }
-LEDGER_METHODS = {
-    "__init__": "(self, rooms)",
-    "move_on": "(self, moment)",
-    "moment": "(self)",
-    "stands": "(self, number)",
-    "chain": "(self, actor, deed, room)",
-    "why_not": "(self, actor, deed, room)",
-    "give": "(self, giver, deeds, room, holder, since, until, *, passes=0)",
-    "take": "(self, actor, number)",
-    "leaves": "(self)",
-    "taken": "(self)",
+METHODS = {
+    ("leavechain.ledger", "Ledger"): {
+        "__init__": "(self, rooms)",
+        "move_on": "(self, moment)",
+        "moment": "(self)",
+        "stands": "(self, number)",
+        "chain": "(self, actor, deed, room)",
+        "why_not": "(self, actor, deed, room)",
+        "give": "(self, giver, deeds, room, holder, since, until, *, passes=0)",
+        "take": "(self, actor, number)",
+        "leaves": "(self)",
+        "taken": "(self)",
+    },
+    ("leavechain.hall", "Hall"): {
+        "__init__": "(self, rooms, programs)",
+        "go": "(self, actor)",
+        "wait": "(self, *, moments=1)",
+        "moment": "(self)",
+        "is_done": "(self, actor)",
+        "locals_of": "(self, actor)",
+        "worths": "(self)",
+        "leaves": "(self)",
+        "log": "(self)",
+    },
 }
 ERRORS = (
     "HallError", "NoHall", "NoRoom", "NoLeave", "NoGift", "NotLet", "NoMoment",
@@ -50,13 +79,13 @@ class InterfaceTest(unittest.TestCase):
                     self.assertTrue(inspect.isfunction(function))
                     self.assertEqual(str(inspect.signature(function)), arguments)
 
-    def test_methods_stand_in_the_ledger_itself_with_their_arguments(self):
-        module = importlib.import_module("leavechain.ledger")
-        self.assertEqual(module.Ledger.__module__, "leavechain.ledger")
-        for name, arguments in LEDGER_METHODS.items():
-            with self.subTest(name=name):
-                method = vars(module.Ledger)[name]
-                self.assertEqual(str(inspect.signature(method)), arguments)
+    def test_methods_stand_in_their_classes_themselves_with_their_arguments(self):
+        for (place, name), methods in METHODS.items():
+            made = getattr(importlib.import_module(place), name)
+            self.assertEqual(made.__module__, place)
+            for method, arguments in methods.items():
+                with self.subTest(name=name, method=method):
+                    self.assertEqual(str(inspect.signature(vars(made)[method])), arguments)
 
     def test_errors_stand_in_their_file(self):
         module = importlib.import_module("leavechain.errors")

@@ -28,6 +28,10 @@ METHODS = set(
     "extendleft".split()
 )
 NOWHERE = set("register mro elements open input law version_info with_traceback add_note".split())
+BARRED_BEGINNINGS = (
+    "_wall", "_pe_", "_dcw_", "_enum_", "_cm_", "_twin_re_", "_lay_", "_law_", "_stub_", "_sre",
+    "_cold", "_tuplegetter", "_outside", "_record", "_written_out", "_member_names",
+)
 LIBRARY = ("heapq", "math", "itertools", "collections", "__future__")
 PLAIN = (ast.Constant, ast.UnaryOp, ast.List, ast.Tuple, ast.Dict)
 NOT_ALLOWED = (
@@ -154,6 +158,7 @@ class LanguageTest(unittest.TestCase):
             for name in names:
                 with self.subTest(place=place, name=name):
                     self.assertNotIn(name, NOWHERE)
+                    self.assertFalse(name.startswith(BARRED_BEGINNINGS))
                     if not name.startswith("__"):
                         self.assertFalse(hasattr(builtins, name))
 
